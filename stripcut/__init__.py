@@ -1,0 +1,1 @@
+"""Figures cut into pieces that make a strip. The calls are in stripcut.strips."""
