@@ -1,6 +1,6 @@
 """Points: pairs of fractions, how far to the right and how far up."""
 
-from stripcut.ratios import half, is_less, is_ratio, plus
+from stripcut.ratios import RATIO_LENGTH, half, is_less, minus, plus, read_ratio, times
 from stripcut.refusals import NotAsTold
 
 POINT_LENGTH = 4
@@ -9,9 +9,7 @@ POINT_LENGTH = 4
 def read_point(numbers):
     if len(numbers) != POINT_LENGTH:
         raise NotAsTold("a point is four numbers")
-    if not is_ratio(numbers[0], numbers[1]) or not is_ratio(numbers[2], numbers[3]):
-        raise NotAsTold("a point is two fractions in lowest terms")
-    return ((numbers[0], numbers[1]), (numbers[2], numbers[3]))
+    return (read_ratio(numbers[:RATIO_LENGTH]), read_ratio(numbers[RATIO_LENGTH:]))
 
 
 def read_points(numbers):
@@ -28,6 +26,20 @@ def origin():
 
 def point_sum(a, b):
     return (plus(a[0], b[0]), plus(a[1], b[1]))
+
+
+def way(a, b):
+    """The way that leads from a to b, told as a point."""
+    return (minus(b[0], a[0]), minus(b[1], a[1]))
+
+
+def scaled(a, factor):
+    return (times(a[0], factor), times(a[1], factor))
+
+
+def cross(u, v):
+    """Above 0 if the way v leads to the left of the way u, below 0 if to its right, else 0."""
+    return minus(times(u[0], v[1]), times(u[1], v[0]))
 
 
 def middle(a, b):

@@ -4,3 +4,8 @@
 # What was handed in isn't what the call asks for: -22.
 class NotAsTold(ValueError):
     pass
+
+
+# It's as asked for, but more than the call takes on: -28.
+class TooMuch(ValueError):
+    pass

@@ -3,8 +3,11 @@
 from stripcut.cuttings import cutting_numbers
 from stripcut.figures import read_figure
 from stripcut.halving import slice_halved
-from stripcut.refusals import NotAsTold
+from stripcut.ratios import read_ratio
+from stripcut.refusals import NotAsTold, TooMuch
+from stripcut.shearing import read_four_sides, sheared
 from stripcut.slicing import read_slice, slice_numbers, slices_of
+from stripcut.stepping import read_stairs, stairs_parts
 
 
 def slices(f):
@@ -26,5 +29,28 @@ def halved(s):
         told = read_slice(s)
     except NotAsTold:
         return [-22]
-    parts = slice_halved(told)
+    return cutting_answer(slice_halved(told))
+
+
+def shear(g, k):
+    """How many parts, then the cutting by shearing g (o, u, v) by the fraction k."""
+    try:
+        parts = sheared(read_four_sides(g), read_ratio(k))
+    except NotAsTold:
+        return [-22]
+    except TooMuch:
+        return [-28]
+    return cutting_answer(parts)
+
+
+def stairs(q):
+    """How many parts, then the cutting by stairs; q is a, b, c."""
+    try:
+        sizes = read_stairs(q)
+    except NotAsTold:
+        return [-22]
+    return cutting_answer(stairs_parts(sizes[0], sizes[1], sizes[2]))
+
+
+def cutting_answer(parts):
     return [len(parts)] + cutting_numbers(parts)

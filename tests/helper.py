@@ -16,6 +16,14 @@ def flat(*points):
     return row
 
 
+def cutting_row(*parts):
+    """The answer that tells these parts, each a piece, 0 or 1, and the slide."""
+    row = [len(parts)]
+    for piece, turned, slid in parts:
+        row += [len(piece)] + flat(*piece) + [turned] + flat(slid)
+    return row
+
+
 def read_fraction(case, numbers):
     top, bottom = numbers
     case.assertIs(int, type(top))
@@ -117,6 +125,28 @@ def check_fills(case, pieces, whole):
         for other in pieces[:k]:
             case.assertEqual(0, common_size(piece, other))
     case.assertEqual(size(whole), sum(size(piece) for piece in pieces))
+
+
+def check_same_piece(case, piece, *bounds):
+    """That the piece is all of what the convex rows of corners have in common: it lies in each, and has its size."""
+    for bound in bounds:
+        for corner in piece:
+            case.assertTrue(lies_in(corner, bound))
+    case.assertEqual(common_size(*bounds), size(piece))
+
+
+def check_handed_in(case, call, *rows):
+    """That the lists stay as they were, and that a second call answers as the first, whatever came between."""
+    before = [list(row) for row in rows]
+    first = call(*rows)
+    case.assertEqual(before, list(rows))
+    case.assertIs(list, type(first))
+    case.assertTrue(all(type(number) is int for number in first))
+    kept = list(first)
+    first.append(7)
+    call(*[[] for _ in rows])
+    case.assertEqual(kept, call(*rows))
+    case.assertEqual(before, list(rows))
 
 
 def common_point(p, q, r, s):

@@ -9,13 +9,6 @@ from tests import helper
 HALF = Fraction(1, 2)
 
 
-def expected(*parts):
-    row = [len(parts)]
-    for piece, turned, slid in parts:
-        row += [len(piece)] + helper.flat(*piece) + [turned] + helper.flat(slid)
-    return row
-
-
 def four_sides(told):
     """What the halved slice makes: o, o and u, o and u and v, o and v."""
     left_below, right_below, right_above, left_above = told
@@ -27,7 +20,7 @@ def four_sides(told):
 
 class KnownSlices(unittest.TestCase):
     def check(self, told, lower, upper, slid):
-        answer = expected((lower, 0, (0, 0)), (upper, 1, slid))
+        answer = helper.cutting_row((lower, 0, (0, 0)), (upper, 1, slid))
         self.assertEqual(answer, halved(helper.flat(*told)))
 
     def test_numbers_one_by_one(self):

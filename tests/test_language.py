@@ -8,7 +8,7 @@ from pathlib import Path
 
 PACKAGE = Path(__file__).resolve().parent.parent / "stripcut"
 
-INTERFACE = {"slices": 1, "halved": 1}
+INTERFACE = {"slices": ["f"], "halved": ["s"], "shear": ["g", "k"], "stairs": ["q"]}
 
 STATEMENTS = (
     ast.Assign, ast.AugAssign, ast.If, ast.While, ast.For, ast.Return, ast.Break, ast.Continue, ast.Pass,
@@ -139,6 +139,16 @@ class Language(unittest.TestCase):
                 self.assertNotIn(node.arg, own, where)
                 self.assertIsNone(node.annotation, where)
 
+    def test_locals_are_not_called_like_a_class_or_an_import(self):
+        for path, tree in self.trees.items():
+            taken = {node.name for node in tree.body if isinstance(node, (ast.FunctionDef, ast.ClassDef))}
+            for node in tree.body:
+                if isinstance(node, ast.ImportFrom):
+                    taken.update(alias.name for alias in node.names)
+            for node in ast.walk(tree):
+                if isinstance(node, ast.Name) and isinstance(node.ctx, ast.Store):
+                    self.assertNotIn(node.id, taken, f"{path.name}:{node.lineno}")
+
     def test_functions_and_calls(self):
         for where, node in self.nodes():
             if isinstance(node, ast.FunctionDef):
@@ -151,11 +161,11 @@ class Language(unittest.TestCase):
     def test_interface_stands_in_its_file_alone(self):
         for path, tree in self.trees.items():
             defs = {node.name: node for node in tree.body if isinstance(node, ast.FunctionDef)}
-            for name, count in INTERFACE.items():
+            for name, parameters in INTERFACE.items():
                 if path.name != "strips.py":
                     self.assertNotIn(name, defs)
                     continue
-                self.assertEqual(count, len(defs[name].args.args))
+                self.assertEqual(parameters, [parameter.arg for parameter in defs[name].args.args])
                 self.assertEqual([], defs[name].args.defaults)
 
 
