@@ -28,6 +28,10 @@ def point_sum(a, b):
     return (plus(a[0], b[0]), plus(a[1], b[1]))
 
 
+def opposite(a):
+    return ((-a[0][0], a[0][1]), (-a[1][0], a[1][1]))
+
+
 def way(a, b):
     """The way that leads from a to b, told as a point."""
     return (minus(b[0], a[0]), minus(b[1], a[1]))

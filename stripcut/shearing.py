@@ -2,6 +2,7 @@
 
 from stripcut.clipping import common_corners
 from stripcut.cuttings import Part, piece_of
+from stripcut.outlines import Outline
 from stripcut.points import POINT_LENGTH, cross, point_sum, read_points, scaled
 from stripcut.ratios import plus
 from stripcut.refusals import NotAsTold, TooMuch
@@ -45,7 +46,7 @@ def slides_with_a_piece(k):
 
 def sheared_part(told, k, j):
     # Reckoned in shares of u and v the numbers stay small; left stays left, as v is on the left of u.
-    shares = common_corners(square_shares(), slid_shares(k, j))
+    shares = common_corners(Outline(square_shares()), Outline(slid_shares(k, j)))
     corners = [point_at(told, share) for share in shares]
     return Part(piece_of(corners), 0, scaled(told.u, (-j, 1)))
 

@@ -1,8 +1,10 @@
 """The calls. Each takes flat lists of whole numbers and answers one; a refusal is its number alone."""
 
-from stripcut.cuttings import cutting_numbers
+from stripcut.chaining import cutting_behind
+from stripcut.cuttings import check_count, cutting_numbers, read_cutting
 from stripcut.figures import read_figure
 from stripcut.halving import slice_halved
+from stripcut.laying import read_width, strip_parts
 from stripcut.ratios import read_ratio
 from stripcut.refusals import NotAsTold, TooMuch
 from stripcut.shearing import read_four_sides, sheared
@@ -50,6 +52,37 @@ def stairs(q):
     except NotAsTold:
         return [-22]
     return cutting_answer(stairs_parts(sizes[0], sizes[1], sizes[2]))
+
+
+def strip(w, f):
+    """How many parts, then figure f's cutting to its strip, w wide."""
+    try:
+        parts = strip_parts(read_figure(f), read_width(w))
+    except NotAsTold:
+        return [-22]
+    except TooMuch:
+        return [-28]
+    return cutting_answer(parts)
+
+
+def behind(c, d):
+    """How many parts, then cutting d behind cutting c."""
+    try:
+        first = read_limited(c)
+        second = read_limited(d)
+        parts = cutting_behind(first, second)
+    except NotAsTold:
+        return [-22]
+    except TooMuch:
+        return [-28]
+    return cutting_answer(parts)
+
+
+def read_limited(row):
+    """The parts of the cutting that the row tells, which mustn't be too many."""
+    parts = read_cutting(row)
+    check_count(parts)
+    return parts
 
 
 def cutting_answer(parts):

@@ -8,7 +8,9 @@ from pathlib import Path
 
 PACKAGE = Path(__file__).resolve().parent.parent / "stripcut"
 
-INTERFACE = {"slices": ["f"], "halved": ["s"], "shear": ["g", "k"], "stairs": ["q"]}
+INTERFACE = {
+    "slices": ["f"], "halved": ["s"], "shear": ["g", "k"], "stairs": ["q"], "strip": ["w", "f"], "behind": ["c", "d"],
+}
 
 STATEMENTS = (
     ast.Assign, ast.AugAssign, ast.If, ast.While, ast.For, ast.Return, ast.Break, ast.Continue, ast.Pass,
