@@ -1,9 +1,10 @@
-"""Moves: a point moved and moved back; one cutting behind another; a cutting taken back."""
+"""Moves: a point led by a cutting; one cutting behind another; a cutting taken back."""
 
 from stripcut.clipping import common_corners
 from stripcut.cuttings import Part, check_count, piece_of
-from stripcut.outlines import Outline
+from stripcut.outlines import Outline, has_within
 from stripcut.points import opposite, origin, point_sum, way
+from stripcut.refusals import InNoPart
 
 
 def moved_point(part, point):
@@ -21,6 +22,14 @@ def turned_point(part, point):
 
 def moved_corners(part):
     return [moved_point(part, corner) for corner in part.piece]
+
+
+def led_point(parts, point):
+    """Where the point goes by the first part in which, or on whose border, it lies."""
+    for part in parts:
+        if has_within(Outline(part.piece), point):
+            return moved_point(part, point)
+    raise InNoPart("the point lies in no part")
 
 
 def cutting_behind(first, second):
@@ -41,7 +50,7 @@ def cutting_behind(first, second):
 def chained_part(part, follower, corners):
     """What the two parts have in common: its corners, given as the first part moves them, moved back."""
     piece = piece_of([moved_back(part, corner) for corner in corners])
-    # A move slides by as much as it leads away from 0, 0, which a half turn leaves where it is.
+    # A half turn leaves 0, 0 where it is: so a move slides by the point to which it leads 0, 0.
     return Part(piece, part.turned ^ follower.turned, moved_point(follower, part.slid))
 
 
@@ -50,6 +59,7 @@ def taken_back(parts):
 
 
 def part_back(part):
+    # Again the slide is the point to which 0, 0 is led, here by the move back.
     return Part(piece_of(moved_corners(part)), part.turned, moved_back(part, origin()))
 
 

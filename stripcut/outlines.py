@@ -46,3 +46,9 @@ def is_piece(outline):
         if any([off_line(outline.lines[k], corner) <= 0 for corner in others]):
             return False
     return True
+
+
+def has_within(outline, point):
+    """Whether the point lies in the piece, or on its border."""
+    told = over_one_bottom(point)
+    return all([off_line(line, told) >= 0 for line in outline.lines])

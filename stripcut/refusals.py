@@ -9,3 +9,8 @@ class NotAsTold(ValueError):
 # It's as asked for, but more than the call takes on: -28.
 class TooMuch(ValueError):
     pass
+
+
+# All is as asked for, but the point lies in no part: -33.
+class InNoPart(ValueError):
+    pass

@@ -1,12 +1,13 @@
 """The calls. Each takes flat lists of whole numbers and answers one; a refusal is its number alone."""
 
-from stripcut.chaining import cutting_behind
+from stripcut.chaining import cutting_behind, led_point, taken_back
 from stripcut.cuttings import check_count, cutting_numbers, read_cutting
 from stripcut.figures import read_figure
 from stripcut.halving import slice_halved
 from stripcut.laying import read_width, strip_parts
+from stripcut.points import point_numbers, read_point
 from stripcut.ratios import read_ratio
-from stripcut.refusals import NotAsTold, TooMuch
+from stripcut.refusals import InNoPart, NotAsTold, TooMuch
 from stripcut.shearing import read_four_sides, sheared
 from stripcut.slicing import read_slice, slice_numbers, slices_of
 from stripcut.stepping import read_stairs, stairs_parts
@@ -76,6 +77,31 @@ def behind(c, d):
     except TooMuch:
         return [-28]
     return cutting_answer(parts)
+
+
+def back(c):
+    """How many parts, then cutting c taken back."""
+    try:
+        parts = read_limited(c)
+    except NotAsTold:
+        return [-22]
+    except TooMuch:
+        return [-28]
+    return cutting_answer(taken_back(parts))
+
+
+def goes(c, z):
+    """1, then the point to which point z goes by cutting c."""
+    try:
+        parts = read_limited(c)
+        point = led_point(parts, read_point(z))
+    except NotAsTold:
+        return [-22]
+    except TooMuch:
+        return [-28]
+    except InNoPart:
+        return [-33]
+    return [1] + point_numbers(point)
 
 
 def read_limited(row):

@@ -10,6 +10,7 @@ PACKAGE = Path(__file__).resolve().parent.parent / "stripcut"
 
 INTERFACE = {
     "slices": ["f"], "halved": ["s"], "shear": ["g", "k"], "stairs": ["q"], "strip": ["w", "f"], "behind": ["c", "d"],
+    "back": ["c"], "goes": ["c", "z"],
 }
 
 STATEMENTS = (
